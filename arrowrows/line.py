@@ -1,0 +1,34 @@
+"""What the calls of one line are about: one category and its instances."""
+
+from arrowrows.category import Category
+from arrowrows.category import is_category
+from arrowrows.filling import Instance
+from arrowrows.filling import is_right
+from arrowrows.refusals import HOW_MANY_INSTANCES
+
+
+def empty_instances(category):
+    return [Instance(category) for i in range(HOW_MANY_INSTANCES)]
+
+
+class Line:
+    def __init__(self):
+        self.category = Category(1)
+        self.instances = empty_instances(self.category)
+
+    def begin_anew(self, things):
+        self.category = Category(things)
+        self.instances = empty_instances(self.category)
+
+    def put_arrow(self, x, y):
+        self.category.ends.append((x, y))
+        self.instances = empty_instances(self.category)
+
+    def all_right(self, chosen):
+        """Whether it is a category and the chosen instances are right."""
+        if not is_category(self.category):
+            return False
+        for i in chosen:
+            if not is_right(self.category, self.instances[i]):
+                return False
+        return True
