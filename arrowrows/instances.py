@@ -133,7 +133,7 @@ def call_length(calls, place):
     return 1 + CALLS[calls[place]][0]
 
 
-def names_no_instance(call):
+def lacks_an_instance(call):
     """Whether one of the instances that the call names is not there."""
     for i in call[1:1 + CALLS[call[0]][1]]:
         if i >= HOW_MANY_INSTANCES:
@@ -143,7 +143,7 @@ def names_no_instance(call):
 
 def answer_call(line, call):
     # This refusal goes ahead of all others, so it is looked for once, for all calls.
-    if names_no_instance(call):
+    if lacks_an_instance(call):
         return [NO_INSTANCE]
     answer = CALLS[call[0]][2]
     return answer(line, call[1:])
