@@ -42,6 +42,11 @@ class Category:
         return self.told.get((f, g))
 
 
+def arrows_between(category, x, y):
+    """The arrows from x to y, by number."""
+    return [f for f, ends in enumerate(category.ends) if ends == (x, y)]
+
+
 def meeting_pairs(category):
     """The arrows f, g that meet and are not a thing's own, by f, then g."""
     pairs = []

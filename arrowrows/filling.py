@@ -15,7 +15,7 @@ class Instance:
         return sum(self.counts)
 
     def has_row(self, x, r):
-        return r < self.counts[x]
+        return x < len(self.counts) and r < self.counts[x]
 
 
 def put_rows(category, instance, x, k):

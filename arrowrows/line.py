@@ -24,10 +24,20 @@ class Line:
         self.category.ends.append((x, y))
         self.instances = empty_instances(self.category)
 
-    def all_right(self, chosen):
-        """Whether it is a category and the chosen instances are right."""
+    def fulfils(self, need, chosen):
+        """Whether what a call needs holds.
+
+        "category": it is a category; "right": it is one, and the chosen
+        instances are right; an empty text: nothing is needed.
+        """
+        if need == "":
+            return True
         if not is_category(self.category):
             return False
+        return need == "category" or self.all_right(chosen)
+
+    def all_right(self, chosen):
+        """Whether the chosen instances are right. It must be a category."""
         for i in chosen:
             if not is_right(self.category, self.instances[i]):
                 return False

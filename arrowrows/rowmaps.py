@@ -1,19 +1,7 @@
 """The maps from one instance to another, all of them, in order. Both must be right."""
 
-from arrowrows.filling import leads_to
-
-
-def things_of_rows(instance):
-    """The thing of each row, the rows in order."""
-    things = []
-    for x, k in enumerate(instance.counts):
-        things.extend([x] * k)
-    return things
-
-
-def place_of_row(instance, x, r):
-    """Where row r of x stands among all rows in order."""
-    return sum(instance.counts[:x]) + r
+from arrowrows.rowlinks import links
+from arrowrows.rowlinks import rows_in_order
 
 
 def conditions_by_place(category, first, second):
@@ -22,13 +10,9 @@ def conditions_by_place(category, first, second):
     A condition is a row's place, the place of the row to which it leads along
     an arrow, and where the other instance's rows lead along this arrow.
     """
-    conditions = [[] for thing in things_of_rows(first)]
-    for f in category.others():
-        x = category.source(f)
-        for r in range(first.counts[x]):
-            here = place_of_row(first, x, r)
-            there = place_of_row(first, category.target(f), leads_to(category, first, f, r))
-            conditions[max(here, there)].append((here, there, second.leads[f]))
+    conditions = [[] for row in rows_in_order(first)]
+    for f, here, there in links(category, first):
+        conditions[max(here, there)].append((here, there, second.leads[f]))
     return conditions
 
 
@@ -54,6 +38,25 @@ def all_maps(category, first, second):
     """All maps from the first to the second, each as the numbers of the rows to which rows are taken."""
     conditions = conditions_by_place(category, first, second)
     found = [[]]
-    for place, x in enumerate(things_of_rows(first)):
-        found = grown(found, second.counts[x], conditions[place])
+    for place, row in enumerate(rows_in_order(first)):
+        found = grown(found, second.counts[row[0]], conditions[place])
     return found
+
+
+def takes_there(taken, wanted):
+    """Whether the map takes the row at each wanted place to the number that stands beside it."""
+    for place, number in wanted:
+        if taken[place] != number:
+            return False
+    return True
+
+
+def takes_to_each_once(first, second, taken):
+    """Whether the map takes rows of the first instance to each row of the second just once."""
+    begin = 0
+    for x, k in enumerate(first.counts):
+        behind = begin + k
+        if sorted(taken[begin:behind]) != list(range(second.counts[x])):
+            return False
+        begin = behind
+    return True

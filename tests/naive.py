@@ -154,8 +154,97 @@ class Naive:
         found = self.all_maps(i, j)
         return found[k] if k < len(found) else [-3]
 
+    def fixed(self, i, j, length, *numbers):
+        if self.refused(i, j):
+            return self.refused(i, j)
+        first = self.all_rows(i)
+        asked = [(numbers[k:k + 2], numbers[k + 2]) for k in range(0, length, 3)]
+        if any(row not in first for row, v in asked):
+            return [-1]
+        return [sum(all(taken[first.index(row)] == v for row, v in asked) for taken in self.all_maps(i, j))]
 
-NAMES = ("start", "arrow", "make", "rows", "set", "check", "maps", "nth")
+    def alike(self, i, j):
+        if self.refused(i, j):
+            return self.refused(i, j)
+        first = self.all_rows(i)
+        taken_to = [sorted((x, v) for (x, r), v in zip(first, taken)) for taken in self.all_maps(i, j)]
+        return [taken_to.count(self.all_rows(j))]
+
+    def led_to(self, i, x, r):
+        """All rows to which row r of x leads along any arrow, itself among them."""
+        return {(self.arrows[f][1], self.led(i, f, r)) for f in self.arrows if self.arrows[f][0] == x}
+
+    def part(self, i, length, *numbers):
+        if self.refused(i, i):
+            return self.refused(i, i)
+        asked = {numbers[k:k + 2] for k in range(0, length, 2)}
+        if not asked <= set(self.all_rows(i)):
+            return [-1]
+        brought = sorted(asked.union(*[self.led_to(i, x, r) for x, r in asked]))
+        return [len(brought)] + [number for row in brought for number in row]
+
+    def pieces(self, i):
+        if self.refused(i, i):
+            return self.refused(i, i)
+        found = []
+        for row in self.all_rows(i):
+            # A row's first reach may hang together with pieces that were apart so far.
+            reach = self.led_to(i, *row)
+            apart = [piece for piece in found if not piece & reach]
+            joined = [piece for piece in found if piece & reach]
+            found = apart + [reach.union(*joined)]
+        found.sort(key=min)
+        return [len(found)] + [k for row in self.all_rows(i) for k, piece in enumerate(found) if row in piece]
+
+    def arrows_of(self, x):
+        """The arrows from x by where they lead to, then by number."""
+        return sorted((f for f in self.arrows if self.arrows[f][0] == x), key=lambda f: (self.arrows[f][1], f))
+
+    def put_arrows(self, i, x):
+        named = {}
+        for y in range(self.n):
+            to_y = [h for h in self.arrows_of(x) if self.arrows[h][1] == y]
+            self.rows_of[i, y] = len(to_y)
+            named.update({h: r for r, h in enumerate(to_y)})
+        self.lead = {key: v for key, v in self.lead.items() if key[0] != i}
+        for f, h in itertools.product(range(self.n, len(self.arrows)), named):
+            if self.arrows[h][1] == self.arrows[f][0]:
+                self.lead[i, f, named[h]] = named[self.made(h, f)]
+
+    def as_rows(self, i, x):
+        if i > 2:
+            return [-2]
+        if not self.category():
+            return [-6]
+        if x >= self.n:
+            return [-1]
+        if len(self.arrows_of(x)) > 6:
+            return [-5]
+        self.put_arrows(i, x)
+        return [self.total(i)]
+
+    def map_of(self, i, x, r):
+        if self.refused(i, i):
+            return self.refused(i, i)
+        if (x, r) not in self.all_rows(i):
+            return [-1]
+        self.put_arrows("aside", x)
+        first = self.all_rows("aside")
+        taken = [self.led(i, h, r) for h in self.arrows_of(x)]
+        if not self.is_map("aside", i, dict(zip(first, taken))) or taken[first.index((x, 0))] != r:
+            raise AssertionError(f"{taken} is no such map")
+        return taken
+
+    def shows(self, i):
+        if i > 2:
+            return [-2]
+        counts = [self.rows_of[i, x] for x in range(self.n)]
+        return counts + [self.lead.get((i, f, r), 99) for f in range(self.n, len(self.arrows))
+                         for r in range(self.rows_of[i, self.arrows[f][0]])]
+
+
+NAMES = ("start", "arrow", "make", "rows", "set", "check", "maps", "nth", "fixed", "alike", "part", "pieces",
+         "as_rows", "map_of", "shows")
 
 
 def naive(calls):

@@ -4,7 +4,8 @@ import random
 import unittest
 from collections import Counter
 
-from lines import BIGGEST, arrow, check, lead, make, maps, nth, rows, start, told
+from lines import (BIGGEST, alike, arrow, arrows as as_rows, check, every, fixed, last, lead, make, map_of, maps, nth,
+                   part, pieces, rows, shows, start, told)
 from naive import naive
 
 
@@ -65,11 +66,17 @@ def filling_calls(draw, i, sizes, arrows):
     return calls
 
 
-def drawn_question(draw):
+def drawn_question(draw, things):
     number = draw.choice((0, 0, 0, 0, 1, 2, 5, BIGGEST))
-    i = draw.choice((0, 0, 1, 1, 2, 3))
-    j = draw.choice((0, 0, 1, 1, 2, 3))
-    return draw.choice((check(i), maps(i, j), nth(i, j, number)))
+    i = draw.choice((0, 0, 0, 0, 1, 1, 1, 1, 2, 3))
+    j = draw.choice((0, 0, 0, 0, 1, 1, 1, 1, 2, 3))
+    x = draw.choice((0, 0, 1, 2, 3, *range(things)))
+    named = [(draw.randrange(things), draw.choice((0, 0, 1)), draw.choice((0, 0, 0, 1, 1, 2)))
+             for place in range(draw.choice((0, 1, 1, 2, 3)))]
+    return draw.choice((
+        check(i), maps(i, j), nth(i, j, number), fixed(i, j, *named), alike(i, j), alike(i, i),
+        part(i, *[row[:2] for row in named]), pieces(i), as_rows(i, x), map_of(i, x, draw.choice((0, 0, 1, 2))),
+        shows(i)))
 
 
 def drawn_change(draw, arrows):
@@ -86,9 +93,9 @@ def category_line(draw):
     calls = category_calls(sizes, arrows)
     for i in (0, 1):
         calls += filling_calls(draw, i, sizes, arrows)
-    for asked in range(8):
-        calls.append(drawn_question(draw))
-        if draw.random() < 0.4:
+    for asked in range(12):
+        calls.append(drawn_question(draw, len(sizes)))
+        if draw.random() < 0.2:
             calls.append(drawn_change(draw, len(arrows)))
     return calls
 
@@ -108,17 +115,30 @@ COUNTS = (0, 1, 1, 2, 2, 2, 3, 6, 7, BIGGEST)
 ROWS = (0, 0, 0, 1, 1, 2, 5, BIGGEST)
 LED_TO = (0, 0, 0, 1, 1, 2, 98, 99, 100, BIGGEST)
 DRAWN_FROM = ((COUNTS,), (THINGS, THINGS), (ARROWS, ARROWS, ARROWS), (INSTANCES, THINGS, COUNTS),
-              (INSTANCES, ARROWS, ROWS, LED_TO), (INSTANCES,), (INSTANCES, INSTANCES), (INSTANCES, INSTANCES, ROWS))
+              (INSTANCES, ARROWS, ROWS, LED_TO), (INSTANCES,), (INSTANCES, INSTANCES), (INSTANCES, INSTANCES, ROWS),
+              (INSTANCES, INSTANCES), (INSTANCES, INSTANCES), (INSTANCES,), (INSTANCES,), (INSTANCES, THINGS),
+              (INSTANCES, THINGS, ROWS), (INSTANCES,))
+# The numbers of the calls behind which rows stand, and from what a row's numbers are drawn.
+WITH_ROWS = {8: (THINGS, ROWS, ROWS), 10: (THINGS, ROWS)}
+
+
+def drawn_call(draw, number):
+    call = [draw.choice(choices) for choices in DRAWN_FROM[number]]
+    if number in WITH_ROWS:
+        count = draw.choice((0, 1, 1, 2, 10))
+        named = [draw.choice(choices) for choices in WITH_ROWS[number] * count]
+        call += [len(named), *named]
+    return (number, *call)
 
 
 def drawn_any_line(draw):
     """Calls of all sorts, most of them such as are let."""
-    calls = [start(draw.randint(1, 3))] + [arrow(0, 0)] * draw.choice((1, 2, 8))
+    calls = [start(draw.randint(1, 3))] + [arrow(0, 0)] * draw.choice((0, 1, 1, 2, 8))
     while len(calls) < 40:
-        number = draw.choice((0, 1, 2, 2, 2, 2, 3, 3, 3, 3, 3, 4, 4, 4, 4, 4, 4, 5, 6, 7))
+        number = draw.choice((0, 1, *[2] * 4, *[3] * 5, *[4] * 6, 5, 6, 7, 8, 9, 10, 11, 12, 12, 13, 14, 14))
         if number < 2 and draw.random() < 0.7:
             number = 4
-        calls.append((number, *[draw.choice(choices) for choices in DRAWN_FROM[number]]))
+        calls.append(drawn_call(draw, number))
     return calls
 
 
@@ -133,17 +153,46 @@ class AgainstNaive(unittest.TestCase):
                 seen[call[0], answer[0] if answer and (answer[0] < 0 or call[0] == 5) else "told"] += 1
         return seen
 
+    def assert_seen(self, seen, kinds):
+        for number, firsts in kinds.items():
+            for first in firsts:
+                self.assertGreater(seen[number, first], 3, (number, first))
+
     def test_categories_and_fillings(self):
-        seen = self.compare(drawn_category_line, 400)
-        for kind in ((5, 0), (5, 1), (5, 2), (5, 3), (5, -2), (5, -6), (6, "told"), (6, -2), (6, -6),
-                     (7, "told"), (7, -2), (7, -3), (7, -6)):
-            self.assertGreater(seen[kind], 3, kind)
+        seen = self.compare(drawn_category_line, 500)
+        self.assert_seen(seen, {
+            5: (0, 1, 2, 3, -2, -6), 6: ("told", -2, -6), 7: ("told", -2, -3, -6), 8: ("told", -1, -2, -6),
+            9: ("told", -2, -6), 10: ("told", -1, -2, -6), 11: ("told", -2, -6), 12: ("told", -1, -2, -6),
+            13: ("told", -1, -2, -6), 14: ("told", -2)})
 
     def test_calls_of_all_kinds(self):
-        seen = self.compare(drawn_any_line, 400)
-        for kind in ((0, "told"), (0, -1), (1, "told"), (1, -1), (1, -5), (2, "told"), (2, -1), (2, -3),
-                     (3, "told"), (3, -1), (3, -2), (3, -5), (4, "told"), (4, -1), (4, -2), (4, -3)):
-            self.assertGreater(seen[kind], 3, kind)
+        seen = self.compare(drawn_any_line, 500)
+        self.assert_seen(seen, {
+            0: ("told", -1), 1: ("told", -1, -5), 2: ("told", -1, -3), 3: ("told", -1, -2, -5),
+            4: ("told", -1, -2, -3), 8: ("told", -1, -2, -6), 9: ("told", -2, -6), 10: ("told", -1, -2, -6),
+            11: ("told", -2, -6), 12: ("told", -1, -2, -6), 13: ("told", -1, -2, -6), 14: ("told", -2)})
+
+
+class ArrowsAsRows(unittest.TestCase):
+    def test_maps_from_a_thing_s_arrows_are_its_rows(self):
+        compared = 0
+        for seed in range(150):
+            draw = random.Random(seed)
+            sizes, arrows = drawn_category(draw)
+            begun = category_calls(sizes, arrows)
+            begun += filling_calls(draw, 0, sizes, arrows)
+            if len(begun) > 38:
+                continue
+            for x in range(len(sizes)):
+                asked = begun + [as_rows(1, x)]
+                if last(*asked, check(0)) == [0] and last(*asked)[0] > 0:
+                    self.assertEqual(last(*asked, check(1)), [0])
+                    count = last(*asked, shows(0))[x]
+                    # By r they come in another order than by the maps: x's own arrow may not be the first row.
+                    told_by_row = [last(*asked, map_of(0, x, r)) for r in range(count)]
+                    self.assertEqual(sorted(told_by_row), every(asked, 1, 0), f"seed {seed}: {asked}")
+                    compared += 1
+        self.assertGreater(compared, 100)
 
 
 if __name__ == "__main__":

@@ -2,15 +2,10 @@
 
 import unittest
 
-from lines import arrow, check, last, lead, make, maps, nth, rows, start, told
+from lines import arrow, check, last, lead, leads, make, maps, nth, rows, start, told
 
 # One thing; whatever two of the arrows 1 and 2 make is 1.
 ALL_MAKE_ONE = (arrow(0, 0), arrow(0, 0), make(1, 1, 1), make(1, 2, 1), make(2, 1, 1), make(2, 2, 1))
-
-
-def leads(i, f, targets):
-    """Calls that tell of all rows, by number, where they lead along f."""
-    return [lead(i, f, r, v) for r, v in enumerate(targets)]
 
 
 class NoCategory(unittest.TestCase):

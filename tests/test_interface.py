@@ -5,24 +5,29 @@ import io
 import unittest
 
 from arrowrows.instances import answers
-from lines import BIGGEST, arrow, check, flat, lead, make, maps, nth, rows, start, told
+from lines import (BIGGEST, alike, arrow, arrows, check, fixed, flat, lead, make, map_of, maps, nth, part, pieces, rows,
+                   shows, start, told)
 
-# Each call at least once, with several kinds of refusals among them.
+# Forty calls: each at least once, with several kinds of refusals among them.
 MIXED = (
     start(2), arrow(0, 1), arrow(1, 1), arrow(2, 0), check(0), make(2, 3, 2), make(3, 3, 3), make(9, 3, 3),
     rows(0, 0, 2), rows(0, 1, 2), rows(0, 1, 9), lead(0, 2, 0, 1), lead(0, 2, 1, 1), lead(0, 3, 0, 1), check(0),
     lead(0, 3, 1, 1), lead(0, 0, 0, 0), check(0), maps(0, 0), nth(0, 0, 3), nth(0, 0, 4), maps(0, 3), nth(1, 0, 0),
-    maps(0, 1),
+    maps(0, 1), fixed(0, 0, (0, 0, 1), (1, 0, 0)), fixed(0, 0, (0, 2, 0)), fixed(3, 0, (0, 0, 0)), alike(0, 0),
+    alike(0, 1), part(0, (0, 1), (0, 1)), part(0, (1, 2)), pieces(0), arrows(1, 0), arrows(1, 2), shows(1),
+    map_of(0, 0, 1), map_of(0, 1, 2), shows(0), maps(1, 0), part(0),
 )
 MIXED_ANSWERS = [
     [2], [2], [3], [-1], [-6], [2], [3], [-3],
     [2], [4], [-5], [99], [99], [99], [1, 3, 1],
     [99], [-1], [0], [8, 0, 0, 0, 1], [0, 1, 1, 1], [1, 0, 0, 1], [-2], [],
-    [0],
+    [0], [2], [-1], [-2], [2], [0],
+    [2, 0, 1, 1, 1], [-1], [1, 0, 0, 0, 0], [2], [-1], [1, 1, 0, 0], [1, 1],
+    [-1], [2, 2, 1, 1, 1, 1], [2, 0, 1], [0],
 ]
 
 
-class Fixed(list):
+class Unchanging(list):
     """A list that can't be changed, not for a while either."""
 
     def refuse(self, *given, **named):
@@ -53,7 +58,7 @@ class Form(unittest.TestCase):
 
     def test_refusals_leave_all_as_it_was(self):
         refused = [place for place, answer in enumerate(MIXED_ANSWERS) if answer and answer[0] < 0]
-        self.assertEqual(len(refused), 6)
+        self.assertEqual(len(refused), 11)
         left = [place for place in range(len(MIXED)) if place not in refused]
         self.assertEqual(told(*[MIXED[place] for place in left]), [MIXED_ANSWERS[place] for place in left])
 
@@ -64,12 +69,34 @@ class Form(unittest.TestCase):
             told(*filled, *[maps(0, 1)] * 19, *[nth(0, 1, 46655)] * 19),
             [[6], [6]] + [[46656, 0, 0, 0, 0, 0, 0]] * 19 + [[5, 5, 5, 5, 5, 5]] * 19)
 
+    def test_forty_calls_with_most_numbers(self):
+        named = [(0, r, r) for r in range(6)]
+        calls = [rows(0, 0, 6)] + [fixed(0, 0, *named, *named[:4])] * 39
+        self.assertEqual(told(*calls), [[6]] + [[1]] * 39)
+        longest = [fixed(0, 0, *[(0, 0, 0)] * 10)] * 40
+        self.assertEqual(len(flat(longest)), 1360)
+        self.assertEqual(told(*longest), [[-1]] * 40)
+
+    def test_forty_calls_of_mixed_kinds(self):
+        self.assertEqual(len(MIXED), 40)
+        self.assertEqual({call[0] for call in MIXED}, set(range(15)))
+
+    def test_numbers_of_the_later_calls(self):
+        self.assertEqual(answers([3, 0, 0, 2, 8, 0, 0, 0, 8, 0, 0, 3, 0, 1, 0]), [1, 2, 1, 4, 1, 2])
+        self.assertEqual(answers([3, 0, 0, 2, 9, 0, 0]), [1, 2, 1, 2])
+        self.assertEqual(answers([3, 0, 0, 2, 10, 0, 0, 10, 0, 2, 0, 1]), [1, 2, 1, 0, 3, 1, 0, 1])
+        self.assertEqual(answers([3, 0, 0, 2, 11, 0]), [1, 2, 3, 2, 0, 1])
+        self.assertEqual(answers([12, 0, 0, 13, 0, 0, 0, 14, 0]), [1, 1, 1, 0, 1, 1])
+
     def test_biggest_numbers_everywhere(self):
         n = BIGGEST
         self.assertEqual(
             told(start(n), arrow(n, n), make(n, n, n), rows(n, n, n), lead(n, n, n, n), check(n), maps(n, n),
-                 nth(n, n, n)),
-            [[-1], [-1], [-3], [-2], [-2], [-2], [-2], [-2]])
+                 nth(n, n, n), fixed(n, n, *[(n, n, n)] * 10), alike(n, n), part(n, *[(n, n)] * 10), pieces(n),
+                 arrows(n, n), map_of(n, n, n), shows(n)),
+            [[-1], [-1], [-3]] + [[-2]] * 12)
+        self.assertEqual(
+            told(fixed(0, 0, *[(n, n, n)] * 10), part(0, *[(n, n)] * 10), arrows(0, n), map_of(0, n, n)), [[-1]] * 4)
 
     def test_whole_numbers_in_a_list(self):
         given = answers(flat(MIXED))
@@ -85,7 +112,7 @@ class NothingChangedOrKept(unittest.TestCase):
         self.assertEqual(calls, before)
 
     def test_the_list_is_not_changed_for_a_while_either(self):
-        self.assertEqual(answers(Fixed(flat(MIXED))), answers(flat(MIXED)))
+        self.assertEqual(answers(Unchanging(flat(MIXED))), answers(flat(MIXED)))
 
     def test_a_second_call_answers_the_same(self):
         calls = flat(MIXED)

@@ -28,6 +28,9 @@ BANNED_WORDS = (
     "type typing typing_extensions enum Enum IntEnum StrEnum Flag IntFlag Generic Protocol ABC ABCMeta namedtuple "
     "NamedTuple TypedDict TYPE_CHECKING abstractmethod").split()
 PYTHONS_OWN = set(dir(builtins))
+# What is walked on the spot, and the calls in which it may stand beside a loop's head.
+WALKED = "zip enumerate reversed range items keys values".split()
+WALKERS = "list tuple dict sorted sum any all enumerate zip min max".split()
 
 
 TREES = [(path.name, ast.parse(path.read_text())) for path in FILES]
@@ -53,7 +56,8 @@ def bound_within(tree):
     names = [node.arg for node in ast.walk(tree) if isinstance(node, ast.arg)]
     for top in tree.body:
         if not isinstance(top, ast.Assign):
-            names += [node.id for node in ast.walk(top) if isinstance(node, ast.Name) and isinstance(node.ctx, ast.Store)]
+            named = [node for node in ast.walk(top) if isinstance(node, ast.Name)]
+            names += [node.id for node in named if isinstance(node.ctx, ast.Store)]
     return names
 
 
@@ -148,6 +152,30 @@ class Language(unittest.TestCase):
         methods = {node.name for name, each in nodes(ast.ClassDef) for node in each.body
                    if isinstance(node, ast.FunctionDef)}
         self.assertEqual(values & methods, set())
+
+    def test_walked_at_once_and_sets_not_kept(self):
+        for name, tree in TREES:
+            around = {child: node for node in ast.walk(tree) for child in ast.iter_child_nodes(node)}
+            for node in ast.walk(tree):
+                if isinstance(node, ast.Call):
+                    called = node.func.id if isinstance(node.func, ast.Name) else node.func.attr
+                    outer = around[node]
+                    taker = outer.func.id if isinstance(outer, ast.Call) and isinstance(outer.func, ast.Name) else None
+                    if called in WALKED:
+                        walked = isinstance(outer, (ast.For, ast.comprehension)) and outer.iter is node
+                        self.assertTrue(walked or taker in WALKERS, (name, node.lineno))
+                    if called == "set":
+                        within = isinstance(outer, ast.Compare) or taker in ("len", "sorted")
+                        self.assertTrue(within, (name, node.lineno))
+
+    def test_what_lies_at_a_file_s_top_is_only_read(self):
+        for name, tree in TREES:
+            top = bound_at_top(tree)
+            for node in ast.walk(tree):
+                if isinstance(node, (ast.Subscript, ast.Attribute)) and isinstance(node.ctx, ast.Store):
+                    while isinstance(node, (ast.Subscript, ast.Attribute)):
+                        node = node.value
+                    self.assertNotIn(node.id, top, name)
 
     def test_top_of_a_file(self):
         for name, tree in TREES:

@@ -2,21 +2,7 @@
 
 import unittest
 
-from lines import BIGGEST, arrow, last, lead, make, maps, nth, rows, start, told
-
-
-def every(begun, i, j):
-    """All maps that nth tells from i to j; maps must tell their count and the first one."""
-    found = []
-    while True:
-        answer = last(*begun, nth(i, j, len(found)))
-        if answer == [-3]:
-            break
-        found.append(answer)
-    counted = last(*begun, maps(i, j))
-    if counted != [len(found)] + (found[0] if found else []):
-        raise AssertionError(f"maps answers {counted}, nth {found}")
-    return found
+from lines import BIGGEST, arrow, every, last, lead, make, maps, nth, rows, start, told
 
 
 class WithoutArrows(unittest.TestCase):
